@@ -1,0 +1,1 @@
+"""A viewer of far screens."""
