@@ -18,10 +18,14 @@ def fill(picture, left, top, width, height, pixel):
 
 
 def move(picture, from_left, from_top, left, top, width, height):
-    # The rows as they were before, held while the picture gets new ones in their places.
-    before = picture[from_top:from_top + height]
-    for place, row in enumerate(before):
-        stripe = row[from_left:from_left + width]
+    places = list(range(height))
+    if from_top < top:
+        # From below, so that no row is replaced before it's read.
+        places.reverse()
+    for place in places:
+        row = picture[from_top + place]
+        # A whole row is shared, since copying it would take as long as drawing it.
+        stripe = row if width == len(row) else row[from_left:from_left + width]
         picture[top + place] = row_with(picture[top + place], left, stripe)
 
 

@@ -8,6 +8,7 @@ VERSION = list(b"RFB 003.008\n")
 GREETING_SENT = VERSION + [1, 1]
 CODINGS_SENT = [2, 0, 0, 5] + [0, 0, 0, 1] + [0, 0, 0, 5] + [0, 0, 0, 4] + [0, 0, 0, 2] + [0, 0, 0, 0]
 BEGIN = [0]
+TOLD = [7]
 
 
 def number(value, size):
@@ -30,6 +31,18 @@ def key(code, down):
     return [3, code, down]
 
 
+def point(x, y, buttons):
+    return [4, x, y, buttons]
+
+
+def row(y, most=1024):
+    return [5, y, most]
+
+
+def cut(most=65536):
+    return [6, most]
+
+
 def answered(*calls):
     """What each call answers, one list a call."""
     flat = answers([word for call in calls for word in call])
@@ -40,6 +53,14 @@ def answered(*calls):
         at += 1 + flat[at]
     assert at == len(flat) and len(given) == len(calls)
     return given
+
+
+def agree(test, found, expected):
+    """As assertEqual, for long lists: a whole account of how such lists differ may take hours to write."""
+    for at, (one, other) in enumerate(zip(found, expected)):
+        if one != other:
+            test.fail(f"at {at}: {str(one)[:300]} is not {str(other)[:300]}")
+    test.assertEqual(len(found), len(expected))
 
 
 def form(bits=8, high_first=0, by_parts=0, greatest=(0, 0, 0), shifts=(0, 0, 0)):
@@ -85,6 +106,14 @@ def table(first, colours):
     return [1, 99] + numbers((first, len(colours))) + [byte for colour in colours for byte in numbers(colour)]
 
 
+# A table by which each pixel stands for a grey of its own, so that the rows that are answered tell the pixels.
+GREYS = [1, 0, 0, 0, 1, 0] + numbers([256 * value for value in range(256) for part in range(3)])
+
+
+def grey(value):
+    return 65793 * value
+
+
 def cut_text(text):
     return [3, 1, 2, 3] + number(len(text), 4) + list(text)
 
@@ -95,6 +124,30 @@ def pixel(value, far_form):
 
 def pixels(values, far_form):
     return [byte for value in values for byte in pixel(value, far_form)]
+
+
+def seen(rows, *pieces):
+    """The colours of the first rows after these pieces, each row as it's answered without its count."""
+    found = answered(BEGIN, *[come(piece) for piece in pieces], *[row(y) for y in range(rows)])[-rows:]
+    assert all(one[0] == len(one) - 1 for one in found), found
+    return [one[1:] for one in found]
+
+
+def seen_pixels(rows, *pieces):
+    """The pixels of the first rows, where the GREYS have come."""
+    return [[colour // 65793 for colour in one] for one in seen(rows, *pieces)]
+
+
+# Far bytes that end in each of the wrongs, and how many columns and rows there are then.
+ENDS = {
+    1: (list(b"RFB 003.009\n"), 0, 0),
+    2: (VERSION + [0], 0, 0),
+    3: (VERSION + [2, 2, 0], 0, 0),
+    4: (VERSION + [1, 1, 0, 0, 1, 0], 0, 0),
+    5: (before_size() + numbers((5, 0)), 0, 0),
+    6: (greeting(5, 2, name=b"far") + [4], 5, 2),
+    7: (greeting(5, 2, name=b"far") + update(rectangle(0, 0, 6, 1, 0)), 5, 2),
+}
 
 
 def session_after(*pieces):
